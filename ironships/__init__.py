@@ -1,0 +1,1 @@
+"""Ironships: the compass of an iron ship, for all headings at once."""
