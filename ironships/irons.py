@@ -1,13 +1,13 @@
-"""Irons and places: rows of fractions that tell what the iron of a ship adds to a field, and fields."""
+"""Irons and places: what the iron of a ship adds to the earth's field, and the five that it comes to there."""
 
-from ironships.errors import InvalidIron, InvalidPlace
-from ironships.numbers import is_fraction
-from ironships.ratios import plus, sign_of
+from ironships.errors import InvalidFive, InvalidIron, InvalidPiece, InvalidPlace, TooMuchIron
+from ironships.numbers import is_row
+from ironships.ratios import HALF, NOUGHT, ONE, minus, negative, over, plus, sign_of, times
 
 
 def is_piece(value):
     """Whether a value, whatever it is, is a piece: three rows of four fractions."""
-    return isinstance(value, tuple) and len(value) == 3 and all([_is_row(row) for row in value])
+    return isinstance(value, tuple) and len(value) == 3 and all([is_row(row, 4) for row in value])
 
 
 def is_iron(value):
@@ -17,9 +17,56 @@ def is_iron(value):
 
 def is_place(value):
     """Whether a value, whatever it is, is a place: two fractions, the first above 0."""
-    if not isinstance(value, tuple) or len(value) != 2:
-        return False
-    return is_fraction(value[0]) and is_fraction(value[1]) and sign_of(value[0]) > 0
+    return is_row(value, 2) and sign_of(value[0]) > 0
+
+
+def is_five(value):
+    """Whether a value, whatever it is, is a five: five fractions."""
+    return is_row(value, 5)
+
+
+def strength_of(iron):
+    """The strength of an iron."""
+    check_iron(iron)
+    return plus(ONE, times(HALF, plus(iron[0][0], iron[1][1])))
+
+
+def five_of(iron, place):
+    """The five of an iron at a place."""
+    strength = strength_of(iron)
+    check_place(place)
+    (a, b, c, fore), (d, e, f, side), _ = iron
+    force, down = place
+    twice, scale = plus(strength, strength), times(strength, force)
+    return (
+        over(minus(d, b), twice),
+        over(plus(times(c, down), fore), scale),
+        over(plus(times(f, down), side), scale),
+        over(minus(a, e), twice),
+        over(plus(d, b), twice),
+    )
+
+
+def plain_iron(five, place):
+    """The iron of strength 1 without a lower row that has this five at the place."""
+    check_five(five)
+    check_place(place)
+    a, b, c, d, e = five
+    force = place[0]
+    fore = (d, minus(e, a), NOUGHT, times(force, b))
+    side = (plus(e, a), negative(d), NOUGHT, times(force, c))
+    return (fore, side, (NOUGHT, NOUGHT, NOUGHT, NOUGHT))
+
+
+def joined(iron, piece):
+    """An iron and a piece, each number added to that in its place."""
+    check_iron(iron)
+    check_piece(piece)
+    both = tuple([_joined_row(row, other) for row, other in zip(iron, piece)])
+    # Three rows of fractions it is in any case; it can only lack the strength.
+    if not is_iron(both):
+        raise TooMuchIron()
+    return both
 
 
 def check_iron(given):
@@ -28,12 +75,24 @@ def check_iron(given):
         raise InvalidIron(given)
 
 
+def check_piece(given):
+    """Refuses what is no piece."""
+    if not is_piece(given):
+        raise InvalidPiece(given)
+
+
 def check_place(given):
     """Refuses what is no place."""
     if not is_place(given):
         raise InvalidPlace(given)
 
 
-def _is_row(value):
-    """Whether a value, whatever it is, is a row: a tuple of four fractions."""
-    return isinstance(value, tuple) and len(value) == 4 and all([is_fraction(number) for number in value])
+def check_five(given):
+    """Refuses what is no five."""
+    if not is_five(given):
+        raise InvalidFive(given)
+
+
+def _joined_row(row, other):
+    """Two rows, each number added to that in its place."""
+    return tuple([plus(number, added) for number, added in zip(row, other)])

@@ -77,6 +77,11 @@ def near(surd, many):
     return ((whole + below) // scale, False)
 
 
+def is_row(value, many):
+    """Whether a value, whatever it is, is a tuple of so many fractions."""
+    return isinstance(value, tuple) and len(value) == many and all([is_fraction(number) for number in value])
+
+
 def check_fraction(given):
     """Refuses what is no fraction."""
     if not is_fraction(given):

@@ -6,6 +6,8 @@ from math import gcd
 
 from ironships.ratios import HALF, plus, times, whole_sign
 
+PRIMES = (3, 5, 7, 11, 13, 17, 19, 23)
+
 
 def polynomial_of(numbers):
     """The polynomial with these whole numbers, without what they have in common."""
@@ -32,31 +34,92 @@ def is_above(polynomial, low, high):
     """Whether the polynomial is above 0 from the fraction low up to the fraction high, both counted in."""
     if sign_at(polynomial, low) < 1 or sign_at(polynomial, high) < 1:
         return False
-    return _roots_between(polynomial, low, high) == 0
+    return _turns_lost(sturm_chain(polynomial, derived(polynomial)), low, high) == 0
 
 
 def is_nowhere_below(polynomial, low, high):
     """Whether the polynomial is 0 or above from the fraction low up to the fraction high, low being less."""
     if polynomial == ():
         return True
-    odd = _odd_part(polynomial)
-    if _roots_between(odd, low, high) > 0:
-        return False
-    return sign_at(odd, times(HALF, plus(low, high))) > 0
+    chain = sturm_chain(polynomial, derived(polynomial))
+    if len(chain[-1]) > 1:
+        # Some root is a multiple one, so that it may be one where the sign does not turn.
+        polynomial = _odd_part(polynomial)
+        chain = sturm_chain(polynomial, derived(polynomial))
+    inside = _turns_lost(chain, low, high)
+    if sign_at(polynomial, high) == 0:
+        inside -= 1
+    return inside == 0 and sign_at(polynomial, times(HALF, plus(low, high))) > 0
 
 
-def _derived(polynomial):
+def root_chain(polynomial):
+    """Sturm's chain of a polynomial that is not (), each over what the polynomial has in common with its derivative.
+
+    So the first one has the same roots, each once."""
+    chain = sturm_chain(polynomial, derived(polynomial))
+    if len(chain[-1]) == 1:
+        return chain
+    return [_quotient(each, chain[-1]) for each in chain]
+
+
+def may_be_nought_at_a_fraction(polynomial):
+    """Whether a fraction may be a root; if not, there is none for certain, which spares a long search."""
+    for prime in PRIMES:
+        rests = [number % prime for number in polynomial]
+        # A root n / m has an m that divides the leading number, so it is also one among the remainders.
+        if rests[-1] != 0 and all([_rest_at(rests, residue, prime) != 0 for residue in range(prime)]):
+            return False
+    return True
+
+
+def derived(polynomial):
     """The derivative of a polynomial."""
     return polynomial_of([at * number for at, number in enumerate(polynomial)][1:])
 
 
-def _product(polynomial, other):
-    """The product of two polynomials that are not ()."""
-    numbers = [0] * (len(polynomial) + len(other) - 1)
-    for at, number in enumerate(polynomial):
-        for other_at, other_number in enumerate(other):
-            numbers[at + other_at] += number * other_number
+def multiplied(polynomial, other):
+    """The product of two polynomials."""
+    return sum_of_products([(polynomial, other)])
+
+
+def sum_of_products(pairs):
+    """The sum of the products of pairs of rows of whole numbers, as those of polynomials are."""
+    numbers = [0] * max([len(row) + len(other) for row, other in pairs])
+    for row, other in pairs:
+        for at, number in enumerate(row):
+            for other_at, other_number in enumerate(other):
+                numbers[at + other_at] += number * other_number
     return polynomial_of(numbers)
+
+
+def sturm_chain(polynomial, following):
+    """Both polynomials, and then the opposite of each rest, down to the last that is not ()."""
+    chain = [polynomial]
+    while following != ():
+        rest = _divided(chain[-1], following)[1]
+        chain.append(following)
+        following = _opposite(rest)
+    return chain
+
+
+def turns(chain, fraction):
+    """How often the sign turns along the chain at a fraction, noughts left out."""
+    many, before = 0, 0
+    for polynomial in chain:
+        sign = sign_at(polynomial, fraction)
+        if sign * before < 0:
+            many += 1
+        if sign != 0:
+            before = sign
+    return many
+
+
+def _rest_at(rests, residue, prime):
+    """What a polynomial is worth at a whole number, as a remainder by a prime."""
+    total = 0
+    for rest in rests[::-1]:
+        total = (total * residue + rest) % prime
+    return total
 
 
 def _divided(polynomial, other):
@@ -104,45 +167,19 @@ def _odd_part(polynomial):
     Its roots are those of odd multiplicity, where the sign turns, each once."""
     odd = (whole_sign(polynomial[-1]),)
     polynomial = _upward(polynomial)
-    left = _common_divisor(polynomial, _derived(polynomial))
+    left = _common_divisor(polynomial, derived(polynomial))
     factors = _quotient(polynomial, left)
     is_odd = True
     # Each round parts off the roots of the next multiplicity.
     while len(factors) > 1:
         further = _common_divisor(factors, left)
         if is_odd:
-            odd = _product(odd, _quotient(factors, further))
+            odd = multiplied(odd, _quotient(factors, further))
         factors, left = further, _quotient(left, further)
         is_odd = not is_odd
     return odd
 
 
-def _roots_between(polynomial, low, high):
-    """The number of roots above low and below high, for a polynomial without a multiple root at low or high."""
-    chain = _sturm_chain(polynomial)
-    # By Sturm's theorem the turns that are lost count the roots above low, up to high.
-    many = _turns(chain, low) - _turns(chain, high)
-    return many - 1 if sign_at(polynomial, high) == 0 else many
-
-
-def _sturm_chain(polynomial):
-    """The polynomial, its derivative, and the opposite of each rest, down to the last that is not ()."""
-    chain = [polynomial]
-    following = _derived(polynomial)
-    while following != ():
-        rest = _divided(chain[-1], following)[1]
-        chain.append(following)
-        following = _opposite(rest)
-    return chain
-
-
-def _turns(chain, fraction):
-    """How often the sign turns along the chain at a fraction, noughts left out."""
-    many, before = 0, 0
-    for polynomial in chain:
-        sign = sign_at(polynomial, fraction)
-        if sign * before < 0:
-            many += 1
-        if sign != 0:
-            before = sign
-    return many
+def _turns_lost(chain, low, high):
+    """By Sturm's theorem the number of roots above low, up to high, if neither is a multiple one."""
+    return turns(chain, low) - turns(chain, high)

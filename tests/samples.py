@@ -70,6 +70,51 @@ def heading_of_half(half):
     return (fraction((1 - half * half) / scale), fraction(2 * half / scale))
 
 
+def five_of(*numbers):
+    """A five, or a wave, of five Python numbers."""
+    return tuple(fraction(each) for each in numbers)
+
+
+def force_at(five, heading):
+    """K and L as [12] tells them."""
+    a, b, c, d, e = [number(each) for each in five]
+    k, s = [number(each) for each in heading]
+    double, doubled = k * k - s * s, 2 * k * s
+    return (1 + b * k - c * s + d * double - e * doubled, a + b * s + c * k + d * doubled + e * double)
+
+
+def ship_force_at(five, heading):
+    """X and Y as [13] tells them."""
+    a, b, c, d, e = [number(each) for each in five]
+    k, s = [number(each) for each in heading]
+    return (b + (1 + d) * k + (a - e) * s, c + (a + e) * k + (d - 1) * s)
+
+
+def dead_five(a, d, e, heading):
+    """The five with these A, D and E, Python numbers, that has no force at the heading."""
+    k, s = [number(each) for each in heading]
+    return five_of(a, -(1 + d) * k - (a - e) * s, -(a + e) * k - (d - 1) * s, d, e)
+
+
+def lined_five(a, turn, share):
+    """A five with W, T1 and T2 0: seen from the ship its force is along one line, share telling how far aside."""
+    c, s = [number(each) for each in turn]
+    d, e = c - a * s, a * c + s
+    return five_of(a, share * (1 + d), share * (a + e), d, e)
+
+
+def wave_worth(wave, heading):
+    """What [19] says that the wave is worth at the heading."""
+    k = [number(each) for each in wave]
+    c, s = [number(each) for each in heading]
+    return k[0] + k[1] * c + k[2] * s + k[3] * (c * c - s * s) + 2 * k[4] * c * s
+
+
+def sign(told):
+    """-1, 0 or 1 as a Python number is below, equal to, above 0."""
+    return (told > 0) - (told < 0)
+
+
 class Stream:
     """The same row of whole numbers in each run."""
 
@@ -91,6 +136,9 @@ class Stream:
 
     def place(self):
         return (fraction(Fraction(self.whole(1, 9), self.whole(1, 4))), fraction(self.ratio()))
+
+    def five(self, size=6, bottom=5, scale=1):
+        return tuple(fraction(self.ratio(size, bottom) / scale) for _ in range(5))
 
     def heading(self):
         return SOUTH if self.whole(0, 12) == 0 else heading_of_half(self.ratio())

@@ -1,10 +1,10 @@
 """Points [29] to [32] and the interface of heels.py, with what points [3], [4] and [5] say of its arguments."""
 
-import copy
 import unittest
 from fractions import Fraction
 from itertools import combinations_with_replacement
 
+from arguments import Arguments, refused
 from ironships.errors import (
     HighBelowLow, InvalidFraction, InvalidHeading, InvalidIron, InvalidPlace, TooMuchIron,
 )
@@ -12,7 +12,7 @@ from ironships.heels import heel_rate, heel_waves, heeled, is_still, is_within_h
 from ironships.irons import is_iron
 from ironships.waves import is_wave
 from samples import (
-    EAST, HALF, HUGE, LEVEL, NIL, NORTH, NOTHING, ONE, POST, SOUTH, STEER, STRANGE, WEST, Stream, fraction,
+    EAST, HALF, HUGE, LEVEL, NIL, NORTH, NOTHING, ONE, POST, SOUTH, STEER, WEST, Stream, fraction,
     heading_of_half, number, rows_of,
 )
 
@@ -461,7 +461,8 @@ def rate_zero(iron, place, heading):
     return fraction(-first / (second - first))
 
 
-class Arguments(unittest.TestCase):
+class HeelArguments(Arguments, unittest.TestCase):
+    MODULE = "ironships.heels"
     CALLS = (
         (heeled, ("iron", "half")),
         (heel_waves, ("iron", "place", "heading")),
@@ -484,38 +485,12 @@ class Arguments(unittest.TestCase):
         "high": [[1, 2], 0, 1, (2, 4), (1, -2)],
     }
 
-    def refused(self, call, told, error, given):
-        for by_name in (True, False):
-            with self.assertRaises(error) as caught:
-                call(**told) if by_name else call(*told.values())
-            self.assertIs(type(caught.exception), error)
-            self.assertIs(caught.exception.given, given)
-
-    def test_each_wrong_argument(self):
-        for call, names in self.CALLS:
-            for name in names:
-                for value in STRANGE + self.WRONG[name]:
-                    told = {each: self.RIGHT[each] for each in names}
-                    told[name] = value
-                    with self.subTest(call=call.__name__, name=name, value=repr(value)[:40]):
-                        self.refused(call, told, self.ERRORS[name], value)
-
-    def test_the_first_wrong_argument_is_told(self):
-        for call, names in self.CALLS:
-            for at, name in enumerate(names):
-                for later in names[at:]:
-                    told = {each: self.RIGHT[each] for each in names[:at]}
-                    told.update({each: self.WRONG[each][0] for each in names[at:]})
-                    self.refused(call, told, self.ERRORS[name], self.WRONG[name][0])
-                    told.update({each: self.RIGHT[each] for each in names[at + 1:] if each != later})
-                    self.refused(call, told, self.ERRORS[name], self.WRONG[name][0])
-
     def test_halves_of_a_stretch(self):
         for call, names in ((is_within_heels, self.CALLS[2][1]), (is_still, self.CALLS[3][1])):
             told = {each: self.RIGHT[each] for each in names}
             for half in (NIL, (-1, 2), ONE, (-1, 1), (2, 1), (-1, HUGE), (HUGE + 1, HUGE)):
                 told["half"] = half
-                self.refused(call, told, InvalidFraction, half)
+                refused(self, call, told, InvalidFraction, half)
             for half in ((1, HUGE), (HUGE - 1, HUGE), (99, 100)):
                 told["half"] = half
                 self.assertIs(type(call(**told)), bool)
@@ -524,32 +499,23 @@ class Arguments(unittest.TestCase):
         told = dict(self.RIGHT)
         for low, high in ((ONE, HALF), (NIL, (-1, HUGE)), ((1, 3), (333, 1000))):
             told.update(low=low, high=high)
-            self.refused(is_within_heels, told, HighBelowLow, high)
+            refused(self, is_within_heels, told, HighBelowLow, high)
         # Both bounds are looked at before their order is, and all else before the bounds.
         told.update(low=ONE, high=(2, 4))
-        self.refused(is_within_heels, told, InvalidFraction, told["high"])
+        refused(self, is_within_heels, told, InvalidFraction, told["high"])
         told.update(half=ONE, high=HALF)
-        self.refused(is_within_heels, told, InvalidFraction, told["half"])
+        refused(self, is_within_heels, told, InvalidFraction, told["half"])
         told.update(half=HALF, low=HALF)
         self.assertIs(is_within_heels(**told), False)
 
     def test_lost_strength_comes_last(self):
         iron = rows_of([-1, 0, 0, 5, 0, 0, 0, 0, 0, 0, -3, 0])
-        self.refused(heeled, {"iron": iron, "half": ONE}, InvalidFraction, ONE)
+        refused(self, heeled, {"iron": iron, "half": ONE}, InvalidFraction, ONE)
         with self.assertRaises(TooMuchIron) as caught:
             heeled(iron, HALF)
         self.assertEqual(vars(caught.exception), {})
         # Only the heeled iron is refused; what is told of the heels is not.
         self.assertIs(is_still(iron, LEVEL, NORTH, HALF), True)
-
-    def test_equal_calls_return_equal_results_and_change_nothing(self):
-        for call, names in self.CALLS:
-            told = {each: self.RIGHT[each] for each in names}
-            kept = copy.deepcopy(told)
-            mixed_up = {each: told[each] for each in sorted(told)}
-            self.assertEqual(call(**told), call(*kept.values()))
-            self.assertEqual(call(**told), call(**mixed_up))
-            self.assertEqual(told, kept)
 
 
 if __name__ == "__main__":
