@@ -107,6 +107,11 @@ def greater_heading(five, other):
     return heading_with_sign(size_polynomials(five, other), -1)
 
 
+def is_force(value):
+    """Whether a value, whatever it is, is a fraction above 0."""
+    return is_fraction(value) and sign_of(value) > 0
+
+
 def _bound_waves(five, low, high):
     """The waves that are nowhere below 0 if no tangent is below low, and none above high."""
     north, east = north_wave(five), east_wave(five)
@@ -125,7 +130,7 @@ def _checked_ahead(five, many):
 def _force_beyond(five, force):
     """The wave of the force square, less a force."""
     wave = force_wave(five)
-    if not is_fraction(force) or sign_of(force) < 1:
+    if not is_force(force):
         raise InvalidForce(force)
     return mixed(wave, ONE_WAVE, negative(force))
 

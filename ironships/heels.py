@@ -76,6 +76,11 @@ def righting_magnet(iron, place, heading):
     return plus(iron[2][3], over(_growth(north, east), fore))
 
 
+def is_stretch(value):
+    """Whether a value, whatever it is, is a fraction above 0 and below 1: the half of the greatest heel."""
+    return is_fraction(value) and sign_of(value) > 0 and value[0] < value[1]
+
+
 def _leant_row(row, level, lean):
     """The row of an iron for a field told as the upright ship sees it."""
     ahead, aside, down, hard = row
@@ -140,5 +145,5 @@ def _never_falls_below(wave, half):
 
 def _check_stretch(given):
     """Refuses what is no fraction above 0 and below 1."""
-    if not is_fraction(given) or sign_of(given) < 1 or given[0] >= given[1]:
+    if not is_stretch(given):
         raise InvalidFraction(given)

@@ -82,6 +82,11 @@ def is_row(value, many):
     return isinstance(value, tuple) and len(value) == many and all([is_fraction(number) for number in value])
 
 
+def are_bounds(low, high):
+    """Whether two values, whatever they are, are fractions, the high one not below the low one."""
+    return is_fraction(low) and is_fraction(high) and sign_of(minus(high, low)) >= 0
+
+
 def check_fraction(given):
     """Refuses what is no fraction."""
     if not is_fraction(given):

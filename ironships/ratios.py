@@ -1,6 +1,6 @@
 """Arithmetic of fractions: reduced pairs (n, m) of whole numbers, m above 0. Nothing is checked here."""
 
-from math import gcd
+from math import gcd, lcm
 
 NOUGHT = (0, 1)
 ONE = (1, 1)
@@ -51,6 +51,19 @@ def dot(fractions, others):
     for fraction, other in zip(fractions, others):
         total = plus(total, times(fraction, other))
     return total
+
+
+def common_bottom(fractions):
+    """The least whole number above 0 that makes all of the fractions whole."""
+    bottom = 1
+    for fraction in fractions:
+        bottom = lcm(bottom, fraction[1])
+    return bottom
+
+
+def scaled(fractions, scale):
+    """The fractions times a whole number that makes all of them whole."""
+    return [top * (scale // bottom) for top, bottom in fractions]
 
 
 def sign_of(fraction):

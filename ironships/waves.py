@@ -1,13 +1,11 @@
 """Waves: sums of a number and the cosines and sines of an angle and of its double, and where they are 0."""
 
-from math import lcm
-
 from ironships.errors import InvalidIndex, InvalidNumber, InvalidWave
 from ironships.headings import BEGINS, SOUTH, check_heading
 from ironships.irons import check_five
 from ironships.numbers import check_fraction, check_many, is_row
 from ironships.polynomials import is_above, is_nowhere_below, polynomial_of, sign_at
-from ironships.ratios import NOUGHT, ONE, dot, is_whole, minus, negative, plus, times
+from ironships.ratios import NOUGHT, ONE, common_bottom, dot, is_whole, minus, negative, plus, scaled, times
 from ironships.roots import Roots, heading_at_root, heading_with_sign
 
 NOUGHT_WAVE = ((0, 1), (0, 1), (0, 1), (0, 1), (0, 1))
@@ -147,10 +145,7 @@ def half_numbers(wave):
 
 def whole_numbers(fractions):
     """The fractions times the least number above 0 that makes all of them whole."""
-    scale = 1
-    for _, bottom in fractions:
-        scale = lcm(scale, bottom)
-    return [top * (scale // bottom) for top, bottom in fractions]
+    return scaled(fractions, common_bottom(fractions))
 
 
 def check_wave(given):

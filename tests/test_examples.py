@@ -111,6 +111,49 @@ True
 >>> [heel_rate(post, level, north), heel_rate(post, level, east), righting_magnet(post, level, north), righting_magnet(post, level, east)]
 [(-1, 1), (0, 1), (0, 1), None]
 """),
+    ("seas", r"""
+>>> from ironships.seas import are_alike_anywhere, has_none_anywhere, is_sea, is_within_over, parting_row, place_between, round_shares, sea_shares, soft_and_hard, spot_of, word_over
+>>> steel = ((nil, nil, nil, (1, 2)), (nil, nil, nil, nil), (nil, nil, nil, nil))
+>>> port, cape = ((1, 1), (2, 1)), ((1, 4), (2, 1))
+>>> [is_sea((port, cape)), is_sea(()), spot_of(port), spot_of(cape), place_between(port, cape, (1, 3))]
+[True, False, ((1, 1), (2, 1)), ((4, 1), (8, 1)), ((1, 2), (2, 1))]
+>>> [sea_shares((port, cape), ((1, 2), (2, 1))), sea_shares((port, cape), ((1, 2), (1, 1))), parting_row((port, cape), ((1, 2), (2, 1)))]
+[((2, 3), (1, 3)), None, None]
+>>> [word_over(steel, (port,)), word_over(steel, (port, cape)), round_shares(steel, port, cape), round_shares(steel, cape, cape)]
+['round', None, (((0, 1), 0, (0, 1)), ((1, 3), 0, (0, 1))), None]
+>>> [is_within_over(steel, (port,), (-1, 1), (1, 1)), is_within_over(steel, (port,), (-1, 2), (1, 2)), is_within_over(steel, (port, cape), (-9, 1), (9, 1))]
+[True, False, False]
+>>> ball = (((1, 1), nil, nil, (1, 1)), (nil, (1, 1), nil, nil), (nil, nil, nil, nil))
+>>> [has_none_anywhere(steel), has_none_anywhere((((1, 9), nil, nil, nil), (nil, (1, 9), nil, nil), (nil, nil, (1, 2), (1, 3)))), are_alike_anywhere(steel, ball)]
+[False, True, True]
+>>> soft_and_hard((nil, (1, 1), nil, nil, nil), port, (nil, (1, 2), nil, nil, nil), ((1, 1), nil))
+(((1, 4), (0, 1)), ((1, 2), (0, 1)))
+>>> soft_and_hard((nil, (1, 1), nil, nil, nil), port, (nil, (1, 2), nil, nil, nil), cape)
+raises SameDip()
+"""),
+    ("boxes", r"""
+>>> from ironships.boxes import built, clearing_counts, fewest_pieces, is_box
+>>> magnet = ((nil, nil, nil, (-1, 4)), (nil, nil, nil, nil), (nil, nil, nil, nil))
+>>> [is_box(((magnet, 3),)), is_box(((magnet, 6),)), built(steel, ((magnet, 3),), (1,))[0]]
+[True, False, ((0, 1), (0, 1), (0, 1), (1, 4))]
+>>> [fewest_pieces(steel, port, ((magnet, 3),), (-1, 3), (1, 3)), fewest_pieces(steel, port, ((magnet, 3),), nil, nil), fewest_pieces(steel, port, ((magnet, 1),), nil, nil), clearing_counts(steel, ((magnet, 3),)), clearing_counts(steel, ((ball, 2),))]
+[(1,), (2,), None, (2,), None]
+"""),
+    ("notes", r"""
+>>> from ironships.notes import any_five, are_clash_weights, clash_weights, clashing, fits, keeps, needless_readings, number_range, reading_of, reading_word, settled_numbers
+>>> slant = ((4, 5), (3, 5))
+>>> still, steep = (nil, nil, nil, nil, nil), (nil, (1, 2), nil, nil, nil)
+>>> [reading_of(steep, north), reading_of(steep, east), reading_of((nil, (2, 1), nil, nil, nil), south), keeps(steep, (east, (1, 4), (3, 4))), keeps(steep, (east, (3, 4), (1, 1)))]
+[(((1, 1), (0, 1)), (0, 1), (0, 1)), (((0, 1), (1, 1)), (1, 2), (1, 2)), None, True, False]
+>>> calm = tuple([(heading, nil, nil) for heading in (north, east, south, west, steer)])
+>>> [any_five(calm), settled_numbers(calm), settled_numbers(calm[::2][:2]), number_range(calm[::2][:2], 2), number_range(calm[:1], 0), settled_numbers(())]
+[((0, 1), (0, 1), (0, 1), (0, 1), (0, 1)), (0, 1, 2, 3, 4), (2,), ((0, 1), (0, 1)), (None, None), ()]
+>>> [reading_word(calm, (slant, nil, nil)), reading_word(calm, (slant, (1, 1), (1, 1))), reading_word(calm[:1], (north, nil, (1, 2))), reading_word(calm[:1], (east, nil, nil)), needless_readings(calm), needless_readings(calm + ((slant, nil, nil),))]
+['sure', 'never', 'sure', 'open', (), (0, 1, 2, 3, 4, 5)]
+>>> noisy = calm + ((slant, (1, 1), (1, 1)),)
+>>> [fits(still, calm), any_five(noisy), clash_weights(calm), clashing(calm), are_clash_weights(noisy, clash_weights(noisy)), are_clash_weights(noisy, ((nil, nil, nil),) * 6)]
+[True, None, None, None, True, False]
+"""),
 )
 
 
@@ -135,7 +178,7 @@ class Examples(unittest.TestCase):
                 with self.subTest(part=part, line=example.source):
                     self.assertEqual(answer(example.source, names), example.want.strip())
                 many += 1
-        self.assertEqual(many, 58)
+        self.assertEqual(many, 82)
 
 
 if __name__ == "__main__":
