@@ -154,6 +154,29 @@ raises SameDip()
 >>> [fits(still, calm), any_five(noisy), clash_weights(calm), clashing(calm), are_clash_weights(noisy, clash_weights(noisy)), are_clash_weights(noisy, ((nil, nil, nil),) * 6)]
 [True, None, None, None, True, False]
 """),
+    ("consoles", r"""
+>>> from ironships.consoles import Console
+>>> from ironships.workshops import Workshop
+>>> shop = Workshop()
+>>> console = Console(shop)
+>>> [console.say("put oak: 1/5 0/1 1/10 2/1; 0/1 -1/5 0/1 -1/1; 0/1 0/1 1/5 3/1"), shop.named("oak") == hull, console.say("names"), console.say("five oak: 10/1 20/1"), console.say("word oak: 10/1 20/1")]
+['done', True, 'oak', '0/1 2/5 -1/10 1/5 0/1', 'round']
+>>> [console.say("tangent oak: 10/1 20/1; 0/1"), console.say("tangent oak: 10/1 20/1; south")]
+['-1/16', '1/8']
+>>> shop.wish(("round", "oak", home))
+>>> console.say("put oak: 0/1 0/1 0/1 20/1; 0/1 0/1 0/1 0/1; 0/1 0/1 0/1 0/1")
+raises Broken(index=0)
+>>> [len(shop), console.say("undo"), shop.wishes, console.say("drop oak"), console.say("names")]
+[2, 'done', (), 'done', 'none']
+"""),
+    ("certificates", r"""
+>>> from ironships.checker import accepts
+>>> from ironships.certificates import certify_box, certify_readings, certify_sea, certify_twins, certify_word
+>>> [accepts(("round word", tame, "round"), ()), accepts(("round word", tame, "dead"), ()), accepts(("twins", wild), (north, south)), accepts(("twins", tame), (north, south)), accepts(("not within", tame, nil, half), west), accepts(("not within", tame, nil, half), north)]
+[True, False, True, False, True, False]
+>>> [certify_word(brink), certify_twins(tame), certify_sea((port, cape), ((1, 2), (2, 1))), certify_readings(calm), certify_box(steel, ((magnet, 3),))[0][0]]
+[(('round word', ((0, 1), (1, 1), (0, 1), (0, 1), (0, 1)), 'dead'), ()), (('no twins', ((0, 1), (1, 2), (0, 1), (0, 1), (0, 1))), ()), (('in sea', (((1, 1), (2, 1)), ((1, 4), (2, 1))), ((1, 2), (2, 1))), ((2, 3), (1, 3))), (('fit', ((((1, 1), (0, 1)), (0, 1), (0, 1)), (((0, 1), (1, 1)), (0, 1), (0, 1)), (((-1, 1), (0, 1)), (0, 1), (0, 1)), (((0, 1), (-1, 1)), (0, 1), (0, 1)), (((3, 5), (4, 5)), (0, 1), (0, 1)))), ((0, 1), (0, 1), (0, 1), (0, 1), (0, 1))), 'clears']
+"""),
 )
 
 
@@ -161,7 +184,8 @@ def answer(source, names):
     """What the document shows for a line."""
     try:
         try:
-            return repr(eval(source, names))
+            told = eval(source, names)
+            return "" if told is None else repr(told)
         except SyntaxError:
             exec(source, names)
             return ""
@@ -178,7 +202,7 @@ class Examples(unittest.TestCase):
                 with self.subTest(part=part, line=example.source):
                     self.assertEqual(answer(example.source, names), example.want.strip())
                 many += 1
-        self.assertEqual(many, 82)
+        self.assertEqual(many, 95)
 
 
 if __name__ == "__main__":
