@@ -14,89 +14,101 @@ class Sums:
         columns = [row + (cost,) for row, cost in zip(rows, costs)]
         self.bottoms = [common_bottom(column) for column in columns]
         self.target_bottom = common_bottom(target)
-        self.many = len(columns)
         self._begin([scaled(column, bottom) for column, bottom in zip(columns, self.bottoms)],
                     scaled(target, self.target_bottom))
         has_end = self._go_down()
         self.is_reached = self.lacks[-1] == 0
         self.weights = self._told_weights()
         self.cost = reduced(-self.costs[-1], self.scale * self.target_bottom) if has_end else None
-        self.parting = tuple([(sign * (self.lacks[self.many + at] - self.scale), 1)
-                              for at, sign in enumerate(self.signs)])
+        self.parting = tuple([(sign * number, 1) for sign, number in zip(self.signs, self._prices())])
 
     def _begin(self, columns, target):
-        """The lines to begin with, each number being over the scale.
+        """What there is to begin with: instead of weights there is a lack of each number of the target.
 
-        A line for each number of the target; in it a number for each row, for what each number of the target lacks
-        (what is there at first instead of weights), and last how much there is of what the line tells. Two more lines
-        tell what the whole lack and the cost grow by; both are to fall, the lack ahead of the cost."""
-        places = range(len(target))
-        self.scale = 1
+        Each line tells how much there is of a lack or of a weight, by its last number; its other numbers, times those
+        of a row, tell how fast this falls as the weight of the row grows. The two lines of the lacks all together and
+        of the costs are to fall, the lacks first. All numbers of the lines are over the scale."""
         self.signs = [-1 if aim < 0 else 1 for aim in target]
+        self.columns = [[sign * number for sign, number in zip(self.signs, column)] for column in columns]
+        self.fees = [column[-1] for column in columns]
+        self.scale = 1
         self.lines = []
-        for at, sign in enumerate(self.signs):
-            own = [1 if other == at else 0 for other in places]
-            self.lines.append([sign * column[at] for column in columns] + own + [sign * target[at]])
-        self.lacks = [-sum([line[at] for line in self.lines]) for at in range(self.many)]
-        self.lacks = self.lacks + [0 for _ in places] + [-sum([line[-1] for line in self.lines])]
-        self.costs = [column[-1] for column in columns] + [0 for _ in places] + [0]
-        self.told = [self.many + at for at in places]
+        for at, aim in enumerate(target):
+            self.lines.append([1 if other == at else 0 for other in range(len(target))] + [abs(aim)])
+        self.lacks = [0 for _ in target] + [-sum([abs(aim) for aim in target])]
+        self.costs = [0 for _ in target] + [0]
+        # Which weight a line tells; a number beyond the rows stands for a lack.
+        self.told = [len(columns) + at for at in range(len(target))]
 
     def _go_down(self):
-        """Lets lack and cost fall as far as they can; whether they have an end.
+        """Lets lacks and costs fall as far as they can; whether they have an end.
 
         The first row that may and the first line that has to are taken each time (Bland's rule), so that this ends."""
         while True:
-            column = self._entering()
-            if column is None:
+            index = self._entering()
+            if index is None:
                 return True
-            at = self._leaving(column)
+            falls = [_product(line, self.columns[index]) for line in self.lines]
+            at = self._leaving(falls)
             if at is None:
                 return False
-            self._exchange(at, column)
+            self._exchange(at, index, falls)
+
+    def _prices(self):
+        """What a row's numbers are to be taken times to tell how fast the lacks fall with its weight."""
+        return [number - self.scale for number in self.lacks[:-1]]
 
     def _entering(self):
-        """The first row with which lack or cost falls; None if there is none."""
-        for column in range(self.many):
-            lack = self.lacks[column]
-            if lack < 0 or lack == 0 and self.costs[column] < 0:
-                return column
+        """The first row with which lacks or costs fall; None if there is none."""
+        prices = self._prices()
+        for index, column in enumerate(self.columns):
+            lack = _product(prices, column)
+            if lack < 0 or lack == 0 and self._fee_of(index) < 0:
+                return index
         return None
 
-    def _leaving(self, column):
-        """The line that is the first to come down to 0 as the weight of a row grows; None if none does."""
+    def _fee_of(self, index):
+        """How fast the costs fall with the weight of a row."""
+        return self.fees[index] * self.scale + _product(self.costs, self.columns[index])
+
+    def _leaving(self, falls):
+        """The line that is the first to come down to 0 as all fall so; None if none does."""
         first = None
-        for at, line in enumerate(self.lines):
-            if line[column] > 0 and (first is None or self._is_sooner(at, first, column)):
+        for at, fall in enumerate(falls):
+            if fall > 0 and (first is None or self._is_sooner(at, first, falls)):
                 first = at
         return first
 
-    def _is_sooner(self, at, other_at, column):
+    def _is_sooner(self, at, other_at, falls):
         """Whether a line comes down to 0 before another one."""
-        line, other = self.lines[at], self.lines[other_at]
-        gap = line[-1] * other[column] - other[-1] * line[column]
+        gap = self.lines[at][-1] * falls[other_at] - self.lines[other_at][-1] * falls[at]
         return gap < 0 or gap == 0 and self.told[at] < self.told[other_at]
 
-    def _exchange(self, at, column):
+    def _exchange(self, at, index, falls):
         """Lets a line tell the weight of a row."""
-        chosen = self.lines[at]
-        self.lines = [line if line_at == at else self._freed(line, chosen, column)
+        chosen, factor = self.lines[at], falls[at]
+        lack, fee = _product(self._prices(), self.columns[index]), self._fee_of(index)
+        self.lines = [line if line_at == at else self._freed(line, falls[line_at], chosen, factor)
                       for line_at, line in enumerate(self.lines)]
-        self.lacks = self._freed(self.lacks, chosen, column)
-        self.costs = self._freed(self.costs, chosen, column)
-        self.told[at] = column
-        self.scale = chosen[column]
+        self.lacks = self._freed(self.lacks, lack, chosen, factor)
+        self.costs = self._freed(self.costs, fee, chosen, factor)
+        self.told[at] = index
+        self.scale = factor
 
-    def _freed(self, line, chosen, column):
+    def _freed(self, line, fall, chosen, factor):
         """A line in the new scale, freed of the row that another line is to tell."""
-        factor, own = chosen[column], line[column]
         # All numbers are determinants of the first ones, and so are whole over the old scale.
-        return [(factor * number - own * other) // self.scale for number, other in zip(line, chosen)]
+        return [(factor * number - fall * other) // self.scale for number, other in zip(line, chosen)]
 
     def _told_weights(self):
         """The weights of the rows as they were passed."""
-        weights = [(0, 1)] * self.many
-        for column, line in zip(self.told, self.lines):
-            if column < self.many:
-                weights[column] = reduced(line[-1] * self.bottoms[column], self.scale * self.target_bottom)
+        weights = [(0, 1)] * len(self.columns)
+        for index, line in zip(self.told, self.lines):
+            if index < len(self.columns):
+                weights[index] = reduced(line[-1] * self.bottoms[index], self.scale * self.target_bottom)
         return tuple(weights)
+
+
+def _product(line, column):
+    """The sum of the products of numbers in the same places, as many as the shorter one has."""
+    return sum([number * other for number, other in zip(line, column)])

@@ -98,8 +98,7 @@ def settled_numbers(readings):
     _check_readings(readings)
     _check_some_fits(readings)
     rows = _rows_of(readings)
-    ends = [_ends_of(rows, index) for index in range(NUMBERS)]
-    return tuple([index for index, (low, high) in enumerate(ends) if low is not None and low == high])
+    return tuple([index for index in range(NUMBERS) if _is_settled(rows, index)])
 
 
 def reading_word(readings, reading):
@@ -127,7 +126,7 @@ def reading_of(five, heading):
 
 
 def five_against(readings, reading):
-    """A five that fits readings which do not clash, but does not keep this reading; None if there is none."""
+    """A five that fits the readings, but does not keep this further one; None if there is none."""
     rows = _rows_of(readings)
     for row in _rows_of((reading,)):
         five = _five_below(rows, row)
@@ -203,18 +202,19 @@ def _five_along(numbers):
 
 
 def _five_below(rows, row):
-    """A five for which all rows are from 0 on, but this one below 0; None if there is none.
-
-    There is some for which all rows are from 0 on."""
-    # By Farkas a row is from 0 on for all of these just if it is a sum of the rows and of a number from 0 on.
+    """A five for which all rows are from 0 on, but this one below 0; None if there is none."""
+    # By Farkas, if some five lets the rows be from 0 on, a row is so for all of these just if it is a sum of the rows
+    # and of a number from 0 on.
     sums = _sums(rows + [STEADY], row)
     if sums.is_reached:
         return None
     parting = sums.parting
     if sign_of(parting[NUMBERS]) > 0:
         return _five_along(parting)
-    # Along this way from any five no other row falls, but this one does.
     five, way = _fitting_five(rows), parting[:NUMBERS]
+    if five is None:
+        return None
+    # Along this way from any five no other row falls, but this one does.
     worth = _worth(row, five)
     if sign_of(worth) < 0:
         return five
@@ -228,6 +228,12 @@ def _ends_of(rows, index):
     return (least, None if opposite is None else negative(opposite))
 
 
+def _is_settled(rows, index):
+    """Whether one of the five numbers has a least where all rows are from 0 on, and no other worth."""
+    least = _least(rows, index, ONE)
+    return least is not None and _least(rows, index, negative(ONE)) == negative(least)
+
+
 def _least(rows, index, factor):
     """The least of so many times one of the five numbers where all rows are from 0 on; None if there is none."""
     target = tuple([factor if at == index else NOUGHT for at in range(NUMBERS)])
@@ -238,5 +244,4 @@ def _least(rows, index, factor):
 
 def _is_needless(readings, index):
     """Whether all fives that fit the other readings keep the one with this index."""
-    others = readings[:index] + readings[index + 1:]
-    return _fitting_five(_rows_of(others)) is None or five_against(others, readings[index]) is None
+    return five_against(readings[:index] + readings[index + 1:], readings[index]) is None

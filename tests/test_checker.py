@@ -385,6 +385,11 @@ class Papers(unittest.TestCase):
         self.assertIs(accepts(("twins", WILD), (EAST, WEST)), False)
         self.assertIs(accepts(("twins", BRINK), (NORTH, SOUTH)), False)
         self.assertIs(accepts(("twins", numbers_five(0, 1, 0, 1, 0)), (SOUTH, heading_of_half(9))), True)
+        # Dead at the cosine - 3 / 5, X being 6 / 5 + 2 cos h: no course is shown by both.
+        dead = numbers_five(0, Fraction(6, 5), 0, 1, 0)
+        self.assertIs(accepts(("twins", dead), (((-3, 5), (4, 5)), ((-3, 5), (-4, 5)))), False)
+        self.assertIs(accepts(("twins", dead), (((-3, 5), (4, 5)), NORTH)), False)
+        self.assertIs(accepts(("twins", dead), (NORTH, ((-3, 5), (4, 5)))), False)
         half_faded = numbers_five(0, 2, 0, 1, 0)
         self.assertEqual(ship_force_at(half_faded, SOUTH), (0, 0))
         self.assertIs(accepts(("twins", half_faded), (NORTH, SOUTH)), False)
@@ -545,10 +550,14 @@ class Certificates(unittest.TestCase):
 
     def test_a_reading_that_breaks_only_far_away(self):
         # All fives that fit with small numbers keep it; endless ones do not.
-        reading = (EAST, (-HUGE, 1), (HUGE, 1))
-        claim, paper = certify_reading(CALM[:1], reading)
-        self.assertEqual(claim[0], "not sure")
-        self.assertIs(accepts(claim, paper), True)
+        for readings, reading in (
+            (CALM[:1], (EAST, (-HUGE, 1), (HUGE, 1))), ((), (WEST, (-HUGE, 1), (HUGE, 1))),
+            (((WEST, (-150, 1), (-150, 1)), (EAST, (450, 1), (450, 1))), (SOUTH, (-450, 1), (-440, 1))),
+            (((WEST, (-150, 1), (-150, 1)), (EAST, (450, 1), (450, 1))), (SOUTH, (440, 1), (450, 1))),
+        ):
+            claim, paper = certify_reading(readings, reading)
+            self.assertEqual(claim[0], "not sure")
+            self.assertIs(accepts(claim, paper), True)
 
     def test_boxes(self):
         stream, found = Stream(7), {}

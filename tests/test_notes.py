@@ -236,6 +236,19 @@ class ClashWeights(unittest.TestCase):
         below = tuple(tuple(fraction(-number(each)) for each in triple) for triple in weights)
         self.assertIs(are_clash_weights(NOISY, below), False)
 
+    def test_weights_below_nought(self):
+        # The four K at north, east, south and west add up to 4, so that their opposites are below 0.
+        below, tiny = (((-1, 1), NIL, NIL),) * 4, (fraction(-LITTLE), NIL, NIL)
+        self.assertIs(are_clash_weights(CALM[:4], below), False)
+        self.assertIs(are_clash_weights(CALM[:4], (tiny,) * 4), False)
+        # Twice the same reading: what the one has more is taken away by the other one.
+        four = tuple(NOISY[index] for index in (0, 1, 2, 5))
+        weights = clash_weights(four)
+        more, less = [tuple(fraction(number(each) + two) for each in weights[3]) for two in (2, 0)], ((-2, 1),) * 3
+        self.assertIs(are_clash_weights(four + four[3:], weights[:3] + (more[1], (NIL,) * 3)), True)
+        self.assertTrue(show_a_clash(four, weights))
+        self.assertIs(are_clash_weights(four + four[3:], weights[:3] + (more[0], less)), False)
+
     def test_any_value(self):
         for value in STRANGE:
             self.assertIs(are_clash_weights(NOISY, value), False)

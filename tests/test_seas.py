@@ -480,6 +480,14 @@ class Anywhere(unittest.TestCase):
                 changed = list(other)
                 changed[at] += LITTLE
                 self.assertIs(are_alike_anywhere(iron, rows_of(changed)), False)
+            # b and d, and a and e, changed together: of A and E, or of D and the strength, one alone is another one.
+            for first, second in ((1, 4), (0, 5)):
+                for sign in (1, -1):
+                    changed = list(other)
+                    changed[first] += LITTLE
+                    changed[second] += sign * LITTLE
+                    told = (first, sign) == (0, 1) and not any(numbers[1:5] + numbers[6:8]) and numbers[0] == numbers[5]
+                    self.assertIs(are_alike_anywhere(iron, rows_of(changed)), told)
 
     def test_alike_at_a_place_alone(self):
         # c and P do the same at this place, and stuck needles may be alike with unlike fives.

@@ -3,8 +3,10 @@
 import copy
 import unittest
 from fractions import Fraction
+from unittest.mock import ANY
 
 from ironships.bounds import is_as_strong, is_within
+from ironships.consoles import Console
 from ironships.errors import (
     Broken, CompassError, InUse, InvalidIndex, InvalidIron, InvalidName, InvalidWish, NothingToUndo, UnknownName,
 )
@@ -577,10 +579,14 @@ class Equality(unittest.TestCase):
         self.assertIs(bool(shop), True)
         self.assertTrue(shop == shop and not shop != shop)
         self.assertTrue(shop != other and not shop == other)
-        for value in STRANGE:
-            if type(value) is not Spiteful:
-                self.assertIs(shop == value, False)
-                self.assertIs(shop != value, True)
+        trial = shop.trial()
+        for each in (shop, trial, Console(shop)):
+            self.assertTrue(each == each and not each != each)
+            # Whatever the other value says of it.
+            for value in STRANGE + [ANY, other.trial(), shop.trial(), Console(shop)]:
+                self.assertIs(each == value, False)
+                self.assertIs(each != value, True)
+        self.assertTrue(shop != trial and trial != shop and shop != other)
         shop.put("oak", PLAIN)
         self.assertIs(bool(shop), True)
         shop.undo()
